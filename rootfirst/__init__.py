@@ -1,0 +1,1 @@
+"""Rootfirst: trees that are judged from the root on."""

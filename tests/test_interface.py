@@ -1,0 +1,73 @@
+"""Each name of the interface stands in the file under which it is listed, with its parameters."""
+
+import ast
+import importlib
+import inspect
+import pathlib
+import unittest
+
+FOLDER = pathlib.Path(__file__).resolve().parent.parent / "rootfirst"
+
+CLASSES = {
+    "errors": {
+        "TreeError": ("ValueError", None), "BadValue": ("TreeError", ["name"]), "TooLarge": ("TreeError", ["what"]),
+        "NotPossible": ("TreeError", ["why"]), "TextError": ("TreeError", ["column", "words"]),
+    },
+}
+
+FUNCTIONS = {
+    "trees": {
+        "is_arities": "value", "is_tree": "arities value", "is_place": "value", "sizes": "arities tree",
+        "places": "arities tree", "part": "arities tree place", "put": "arities tree place other",
+        "is_before": "arities first second", "are_equal_to": "arities first second depth",
+        "equal_depth": "arities first second", "are_equal_along": "arities first second place depth",
+        "graft": "arities first second place",
+    },
+    "runs": {
+        "is_automaton": "value", "tree_state": "automaton tree", "takes": "automaton tree", "run": "automaton tree",
+        "accepts_run": "automaton tree value", "fitting": "automaton tree place", "reached": "automaton",
+    },
+    "listing": {
+        "first_tree": "automaton state", "count_state": "automaton state size", "count_good": "automaton size",
+        "nth_good": "automaton index", "index_of_good": "automaton tree", "good_from": "automaton index many",
+    },
+}
+
+
+def defined(module):
+    """The functions and classes that the file itself defines, by name."""
+    tree = ast.parse((FOLDER / (module + ".py")).read_text())
+    return {node.name: node for node in tree.body if isinstance(node, (ast.FunctionDef, ast.ClassDef))}
+
+
+class Interface(unittest.TestCase):
+    def test_functions(self):
+        for module, listed in FUNCTIONS.items():
+            loaded, found = importlib.import_module("rootfirst." + module), defined(module)
+            for name, parameters in listed.items():
+                with self.subTest(module=module, name=name):
+                    self.assertIsInstance(found.get(name), ast.FunctionDef)
+                    told = inspect.signature(getattr(loaded, name)).parameters.values()
+                    self.assertEqual([one.name for one in told], parameters.split())
+                    for one in told:
+                        self.assertEqual((one.kind, one.default), (one.POSITIONAL_OR_KEYWORD, one.empty))
+
+    def test_classes(self):
+        for module, listed in CLASSES.items():
+            loaded, found = importlib.import_module("rootfirst." + module), defined(module)
+            for name, (base, parameters) in listed.items():
+                with self.subTest(module=module, name=name):
+                    self.assertIsInstance(found.get(name), ast.ClassDef)
+                    self.assertEqual([one.__name__ for one in getattr(loaded, name).__bases__], [base])
+                    if parameters is not None:
+                        told = inspect.signature(getattr(loaded, name)).parameters
+                        self.assertEqual(list(told), parameters)
+
+    def test_arguments_can_be_named(self):
+        from rootfirst.trees import are_equal_along
+        told = are_equal_along(depth=1, place=(), second=(0,), first=(0,), arities=(0,))
+        self.assertIs(told, True)
+
+
+if __name__ == "__main__":
+    unittest.main()
