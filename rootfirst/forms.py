@@ -30,12 +30,12 @@ def is_tuple(value, least, most):
 
 def are_integers(values, least, most):
     """Returns True if all of the values are integers within the bounds."""
-    return all(is_integer(value, least, most) for value in values)
+    return all([is_integer(value, least, most) for value in values])
 
 
 def is_ascending(rows):
     """Returns True if each item is less than the next one, so that all are different."""
-    return all(rows[at] < rows[at + 1] for at in range(len(rows) - 1))
+    return all([rows[at] < rows[at + 1] for at in range(len(rows) - 1)])
 
 
 def is_state_set(value, many):

@@ -49,8 +49,6 @@ def _listed(automaton, index, many):
         while index < ways and len(found) < many:
             found.append(nth_of_size(automaton, counts, size, index))
             index += 1
-        if index < ways:
-            return found
         # From here on the index counts from the first tree of the next size.
         index -= ways
     return found

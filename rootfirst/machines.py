@@ -29,7 +29,7 @@ def state_of(automaton, tree):
 
 def reached_states(automaton):
     """Returns the set of the reached states."""
-    arities, good, steps = automaton
+    arities, _, steps = automaton
     found = []
     many = -1
     while many < len(found):
@@ -40,6 +40,16 @@ def reached_states(automaton):
                 if state not in found:
                     found = found + [state]
     return tuple(sorted(found))
+
+
+def is_closed_set(automaton, chosen):
+    """Returns True if every step from the chosen states leads to one of them."""
+    arities, _, steps = automaton
+    return all([
+        lead(steps[symbol], states) in chosen
+        for symbol, arity in enumerate(arities)
+        for states in choices(chosen, arity)
+    ])
 
 
 def first_trees(automaton):
@@ -53,30 +63,19 @@ def first_trees(automaton):
     while better != best:
         best = better
         better = _with_one_more_level(automaton, best)
-    return [found if found is None else found[2] for found in best]
+    return [None if key is None else key[1] for key in best]
 
 
 def _with_one_more_level(automaton, best):
-    """Returns the best known (size, symbols, tree) of each state, those joined from known ones among them."""
+    """Returns the least order key, (size, tree), known for each state, after one more joining of known ones."""
     arities, good, steps = automaton
     better = list(best)
     known = [state for state in range(len(good)) if best[state] is not None]
     for symbol, arity in enumerate(arities):
         for states in choices(known, arity):
             state = lead(steps[symbol], states)
-            found = _joined(symbol, [best[child] for child in states])
-            if found[0] <= MOST_NODES and (better[state] is None or found < better[state]):
-                better[state] = found
+            tree = (symbol,) + tuple([best[child][1] for child in states])
+            key = (1 + sum([best[child][0] for child in states]), tree)
+            if key[0] <= MOST_NODES and (better[state] is None or key < better[state]):
+                better[state] = key
     return better
-
-
-def _joined(symbol, children):
-    """Returns the size, the symbols and the tree with these children below the symbol."""
-    size = 1
-    symbols = (symbol,)
-    tree = (symbol,)
-    for child in children:
-        size += child[0]
-        symbols = symbols + child[1]
-        tree = tree + (child[2],)
-    return (size, symbols, tree)

@@ -19,18 +19,13 @@ def places_of(tree):
     return found
 
 
-def symbols_of(tree):
-    """Returns the tuple of the symbols, each node before its children."""
-    found = tree[:1]
-    for child in tree[1:]:
-        found = found + symbols_of(child)
-    return found
-
-
 def order_key(tree):
-    """Returns what puts trees in order: the size, then the symbols."""
-    symbols = symbols_of(tree)
-    return (len(symbols), symbols)
+    """Returns what puts trees in order: the size, and then the tree itself.
+
+    Of two trees the tuples differ first at the first node at which the symbols
+    do, each node before its children, since the symbol tells how many follow.
+    """
+    return (size_of(tree), tree)
 
 
 def part_at(tree, place):

@@ -11,18 +11,18 @@ def is_automaton(value):
     if not is_tuple(value, 3, 3) or not is_arities(value[0]):
         return False
     arities, good, steps = value
-    if not is_tuple(good, 1, MOST_STATES) or not all(isinstance(flag, bool) for flag in good):
+    if not is_tuple(good, 1, MOST_STATES) or not all([isinstance(flag, bool) for flag in good]):
         return False
     if not is_tuple(steps, len(arities), len(arities)):
         return False
-    return all(_is_entry(entry, arity, len(good)) for entry, arity in zip(steps, arities))
+    return all([_is_entry(entry, arity, len(good)) for entry, arity in zip(steps, arities)])
 
 
 def _is_entry(value, arity, many):
     """Returns True if the value is the entry of a symbol of the arity, with so many states."""
     if arity == 0:
         return is_integer(value, 0, many - 1)
-    return is_tuple(value, many, many) and all(_is_entry(entry, arity - 1, many) for entry in value)
+    return is_tuple(value, many, many) and all([_is_entry(entry, arity - 1, many) for entry in value])
 
 
 def require_automaton_and_tree(automaton, tree):
@@ -61,7 +61,7 @@ def accepts_run(automaton, tree, value):
     if not is_tuple(value, len(told), len(told)):
         return False
     # Only a value of this form is compared, since True is equal to 1.
-    return all(_is_placed_state(pair) for pair in value) and value == told
+    return all([_is_placed_state(pair) for pair in value]) and value == told
 
 
 def _is_placed_state(value):

@@ -6,7 +6,7 @@ from rootfirst.nodes import (
     are_alike, are_alike_along, depth_alike, height_of, order_key, part_at, places_of, replaced, size_of,
 )
 
-LONGEST_PLACE = MOST_NODES - 1
+LONGEST_PLACE = 14
 GREATEST_DEPTH = 15
 
 

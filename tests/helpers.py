@@ -116,7 +116,8 @@ WRONG_AUTOMATA = [
     ((0,) * 5, (True,), (0,) * 5), ((0,), (), (0,)), ((0,), (True,) * 5, (0,)), ((0,), (1,), (0,)),
     ((0,), (None,), (0,)), ((0,), ("True",), (0,)), ((0,), (True,), ()), ((0,), (True,), (0, 0)),
     ((0,), (True,), (1,)), ((0,), (True,), (-1,)), ((0,), (True,), (False,)), ((0,), (True, False), (True,)),
-    ((0,), (True,), (None,)), ((0,), (True,), ((0,),)), ((1,), (True,), (0,)), ((1,), (True,), ([0],)),
+    ((0,), (True,), (None,)), ((0,), (True,), ((0,),)), ((1,), (), ((),)), ((2,), (), ((),)), ((1,), (True,), (0,)),
+    ((1,), (True,), ([0],)),
     ((1,), (True,), ((0, 0),)), ((1,), (True,), ((),)), ((1,), (True,), ((1,),)), ((1,), (True,), ((False,),)),
     ((1,), (True,), (((0,),),)), ((2,), (True,), (0,)), ((2,), (True,), ((0,),)), ((2,), (True,), (((0,), (0,)),)),
     ((2,), (True,), (((0, 0),),)), ((2,), (True,), (([0],),)), ((2,), (True,), (((False,),),)),
@@ -259,3 +260,54 @@ def reached_by_trees(automaton):
         if come <= found:
             return tuple(sorted(found))
         found |= come
+
+
+def closed(automaton, chosen):
+    """Whether every step from the chosen states leads to one of them."""
+    return all(
+        entry_state(entry, states) in chosen
+        for arity, entry in zip(automaton[0], automaton[2])
+        for states in itertools.product(chosen, repeat=arity)
+    )
+
+
+# --- evidence, and the same with one thing changed
+
+
+def is_whole(value):
+    """Whether the value is an integer, and not True or False."""
+    return type(value) is int
+
+
+def is_one_of(value, many):
+    return is_whole(value) and 0 <= value < many
+
+
+def is_plain_tree(arities, value):
+    """Whether the value is a tree, told by making it node by node."""
+    def count(node, left):
+        if left < 1 or type(node) is not tuple or not node or not is_one_of(node[0], len(arities)):
+            return 1000
+        if len(node) != 1 + arities[node[0]]:
+            return 1000
+        return 1 + sum(count(child, left - 1) for child in node[1:])
+    return count(value, 15) <= 15
+
+
+def changed(value):
+    """The same value with one thing in it of another form, changed, left out, put in, twice or out of order."""
+    found = [None, -1, "", (value,), DEEP, DEEP_LIST]
+    if type(value) is int:
+        found += [value - 1, value + 1, str(value), 10 ** 30] + ([bool(value)] if value in (0, 1) else [])
+    elif type(value) is bool:
+        found += [int(value), not value]
+    elif type(value) is str:
+        found += [value + " ", value.upper(), value[:-1], 0]
+    elif type(value) is tuple:
+        found += [list(value), value + value, value[::-1]]
+        for at in range(len(value)):
+            found += [value[:at] + value[at + 1:], value[:at + 1] + value[at:]]
+            found += [value[:at] + (put_in,) + value[at:] for put_in in (0, 1, None, (), (0,), (0, 0), DEEP)]
+            found += [value[:at] + (one,) + value[at + 1:] for one in changed(value[at])]
+            found += [value[:at] + (value[other],) + value[at + 1:] for other in range(len(value))]
+    return found

@@ -27,9 +27,20 @@ FUNCTIONS = {
         "is_automaton": "value", "tree_state": "automaton tree", "takes": "automaton tree", "run": "automaton tree",
         "accepts_run": "automaton tree value", "fitting": "automaton tree place", "reached": "automaton",
     },
+    "reaching": {"state_evidence": "automaton state", "accepts_state": "automaton state value"},
     "listing": {
         "first_tree": "automaton state", "count_state": "automaton state size", "count_good": "automaton size",
         "nth_good": "automaton index", "index_of_good": "automaton tree", "good_from": "automaton index many",
+    },
+    "totals": {"total_good": "automaton", "total_evidence": "automaton", "accepts_total": "automaton value"},
+    "comparing": {
+        "telling_tree": "first second", "minimal": "automaton", "both": "first second", "either": "first second",
+        "without": "first second", "same_evidence": "first second", "accepts_same": "first second value",
+        "within_evidence": "first second", "accepts_within": "first second value",
+    },
+    "topdown": {
+        "is_table": "arities value", "run": "arities table tree", "takers": "arities table tree",
+        "received": "arities table",
     },
 }
 

@@ -5,7 +5,7 @@ import unittest
 
 from rootfirst.runs import accepts_run, fitting, is_automaton, reached, run, takes, tree_state
 from tests import helpers
-from tests.helpers import Case, all_places, all_trees, at_place, exchanged, good, many_automata, state
+from tests.helpers import Case, all_places, all_trees, at_place, closed, exchanged, good, many_automata, state
 
 EVEN = ((0, 0, 2), (True, False, False), (0, 1, ((0, 1, 2), (1, 0, 2), (2, 2, 2))))
 MIXED = ((0, 1, 2), (False, True, False), (1, (2, 0, 1), ((0, 1, 2), (2, 2, 0), (1, 0, 0))))
@@ -217,9 +217,9 @@ class Reached(Case):
     def test_the_least_closed_set(self):
         for automaton in many_automata(7, 1):
             told = reached(automaton)
-            closed = [chosen for chosen in all_subsets(len(automaton[1])) if is_closed_set(automaton, chosen)]
-            self.assertIn(told, closed)
-            for chosen in closed:
+            sets = [chosen for chosen in all_subsets(len(automaton[1])) if closed(automaton, chosen)]
+            self.assertIn(told, sets)
+            for chosen in sets:
                 self.assertTrue(set(told) <= set(chosen))
 
     def test_a_state_that_needs_15_nodes(self):
@@ -236,14 +236,6 @@ class Reached(Case):
 
 def all_subsets(many):
     return [chosen for size in range(many + 1) for chosen in itertools.combinations(range(many), size)]
-
-
-def is_closed_set(automaton, chosen):
-    return all(
-        helpers.entry_state(entry, states) in chosen
-        for arity, entry in zip(automaton[0], automaton[2])
-        for states in itertools.product(chosen, repeat=arity)
-    )
 
 
 class WrongArguments(Case):
