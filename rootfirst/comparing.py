@@ -1,10 +1,8 @@
 """Whether two automata have the same good trees, or one has all those of the other."""
 
-from rootfirst.errors import TooLarge
 from rootfirst.forms import is_ascending, is_integer, is_tuple, require
-from rootfirst.machines import choices, first_trees, lead, reached_states
 from rootfirst.minimizing import minimal_of, paired
-from rootfirst.nodes import order_key
+from rootfirst.relations import first_apart, is_closed_relation, reached_pairs
 from rootfirst.runs import is_automaton
 
 MOST_PAIRS = 16
@@ -35,15 +33,7 @@ def _differ(one, other):
 def telling_tree(first, second):
     """Returns the telling tree, or None if the automata are the same."""
     _require_two(first, second)
-    pair = paired(first, second, _differ)
-    telling = [state for state in reached_states(pair) if pair[1][state]]
-    if not telling:
-        return None
-    firsts = first_trees(pair)
-    found = [firsts[state] for state in telling if firsts[state] is not None]
-    if not found:
-        raise TooLarge("tree")
-    return min(found, key=order_key)
+    return first_apart(first, second)
 
 
 def minimal(automaton):
@@ -96,12 +86,13 @@ def accepts_within(first, second, value):
 
 def _evidence(first, second, barred):
     """Returns the least relation if it has no pair whose flags are barred, otherwise None."""
-    many = len(second[1])
-    pair = paired(first, second, barred)
-    states = reached_states(pair)
-    if any([pair[1][state] for state in states]):
-        return None
-    return tuple([divmod(state, many) for state in states])
+    relation = tuple(reached_pairs(first, second))
+    return None if _has_barred(first, second, relation, barred) else relation
+
+
+def _has_barred(first, second, relation, barred):
+    """Returns True if some pair of the relation has flags that are barred."""
+    return any([barred(first[1][one], second[1][other]) for one, other in relation])
 
 
 def _is_relation(first, second, value):
@@ -120,17 +111,6 @@ def _is_state_pair(first, second, value):
 
 def _is_evidence(first, second, relation, barred):
     """Returns True if the relation is closed, and has no pair whose flags are barred."""
-    if any([barred(first[1][one], second[1][other]) for one, other in relation]):
+    if _has_barred(first, second, relation, barred):
         return False
-    return all([
-        _pair_behind(first, second, symbol, chosen) in relation
-        for symbol, arity in enumerate(first[0])
-        for chosen in choices(relation, arity)
-    ])
-
-
-def _pair_behind(first, second, symbol, chosen):
-    """Returns the pair of the states to which the symbol leads from the chosen pairs."""
-    one = lead(first[2][symbol], [pair[0] for pair in chosen])
-    other = lead(second[2][symbol], [pair[1] for pair in chosen])
-    return (one, other)
+    return is_closed_relation(first, second, relation)

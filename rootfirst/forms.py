@@ -10,6 +10,8 @@ MOST_SYMBOLS = 4
 MOST_CHILDREN = 2
 MOST_NODES = 15
 MOST_STATES = 4
+MOST_LEVELS = 12
+MOST_SEARCHED = 6
 
 
 def require(holds, name):
@@ -41,3 +43,11 @@ def is_ascending(rows):
 def is_state_set(value, many):
     """Returns True if the value is a set of states, of which there are so many."""
     return is_tuple(value, 0, many) and are_integers(value, 0, many - 1) and is_ascending(value)
+
+
+def are_state_tuples(value, length, many):
+    """Returns True if the value is an ascending tuple of different tuples of this length of states, of which
+    there are so many."""
+    if not isinstance(value, tuple) or not all([is_tuple(row, length, length) for row in value]):
+        return False
+    return all([are_integers(row, 0, many - 1) for row in value]) and is_ascending(value)

@@ -21,6 +21,19 @@ def choices(rows, many):
     return found
 
 
+def children_by_size(by_size, many, nodes):
+    """Returns the list of the choices of so many items with so many nodes in all, where `by_size` has a list of
+    items for each size from 0 on."""
+    if many == 0:
+        return [()] if nodes == 0 else []
+    return [
+        (child,) + rest
+        for size in range(1, nodes + 1)
+        for rest in children_by_size(by_size, many - 1, nodes - size)
+        for child in by_size[size]
+    ]
+
+
 def state_of(automaton, tree):
     """Returns the state of the tree."""
     states = [state_of(automaton, child) for child in tree[1:]]
@@ -29,6 +42,11 @@ def state_of(automaton, tree):
 
 def reached_states(automaton):
     """Returns the set of the reached states."""
+    return tuple(sorted(reached_in_order(automaton)))
+
+
+def reached_in_order(automaton):
+    """Returns the list of the reached states, each behind those from which some symbol leads to it."""
     arities, _, steps = automaton
     found = []
     many = -1
@@ -39,7 +57,7 @@ def reached_states(automaton):
                 state = lead(steps[symbol], states)
                 if state not in found:
                     found = found + [state]
-    return tuple(sorted(found))
+    return found
 
 
 def is_closed_set(automaton, chosen):

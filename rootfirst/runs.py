@@ -37,6 +37,12 @@ def require_automaton_and_state(automaton, state):
     require(is_integer(state, 0, len(automaton[1]) - 1), "state")
 
 
+def require_automaton_and_depth(automaton, depth, least, most):
+    """Refuses what is not an automaton, or not a depth within the bounds."""
+    require(is_automaton(automaton), "automaton")
+    require(is_integer(depth, least, most), "depth")
+
+
 def tree_state(automaton, tree):
     """Returns the state of the tree."""
     require_automaton_and_tree(automaton, tree)

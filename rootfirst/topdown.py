@@ -1,6 +1,7 @@
 """Tables that judge trees from the root on, with a state handed to each child."""
 
 from rootfirst.forms import MOST_STATES, are_integers, is_integer, is_tuple, require
+from rootfirst.taking import takers_behind
 from rootfirst.trees import is_arities, is_tree
 
 
@@ -60,12 +61,7 @@ def takers(arities, table, tree):
 def _takers(rows, tree):
     """Returns the set of the states whose rows take the tree."""
     below = [_takers(rows, child) for child in tree[1:]]
-    return tuple([state for state, row in enumerate(rows) if _hands_on(row[tree[0]], below)])
-
-
-def _hands_on(entry, below):
-    """Returns True if the entry does not fail, and names one of the takers of each child."""
-    return entry is not None and all([state in chosen for state, chosen in zip(entry, below)])
+    return takers_behind([row[tree[0]] for row in rows], below)
 
 
 def received(arities, table):

@@ -1,6 +1,7 @@
 """What several tests need: a test case with the errors of the program, wrong values,
 and a slow and plain telling of trees and automata that shares nothing with the program."""
 
+import functools
 import itertools
 import random
 import unittest
@@ -129,6 +130,21 @@ WRONG_AUTOMATA = [
     ((0,), (True,) * 100000, (0,)), ((0,), (True,), (0,) * 100000),
 ]
 
+# For the arities (0, 1, 2), beside the rows of a table that is right.
+ALL_OF = (((), (0,), (0, 0)),)
+WRONG_TABLES = [
+    None, True, 0, "", [], (), (0,), [0, ALL_OF], (0, list(ALL_OF)), (0, ALL_OF, ()), (0, ()), (1, ALL_OF),
+    (-1, ALL_OF), (None, ALL_OF), (False, ALL_OF), ("0", ALL_OF), ((0,), ALL_OF), (0, ALL_OF * 5),
+    (0, (None,)), (0, ([(), (0,), (0, 0)],)), (0, (((), (0,)),)), (0, (((), (0,), (0, 0), ()),)), (0, ((),)),
+    (0, ((0, (0,), (0, 0)),)), (0, (((), 0, (0, 0)),)), (0, (((), (), (0, 0)),)), (0, (((), (0, 0), (0, 0)),)),
+    (0, (((), (0,), (0,)),)), (0, (((), (0,), (0, 0, 0)),)), (0, (((), [0], (0, 0)),)), (0, (((), (1,), (0, 0)),)),
+    (0, (((), (-1,), (0, 0)),)), (0, (((), (False,), (0, 0)),)), (0, (((), (None,), (0, 0)),)),
+    (0, (((0,), (0,), (0, 0)),)), (0, (((), (0,), (0, True)),) * 2), (0, ((False, (0,), (0, 0)),)),
+    (0, (([], (0,), (0, 0)),)), DEEP, DEEP_LIST, (DEEP, ALL_OF), (0, DEEP),
+    (0, (DEEP,)), (0, ((DEEP, (0,), (0, 0)),)), (0, (((), (DEEP,), (0, 0)),)),
+    (0, ALL_OF * 100000), (0, (((), (0,), (0,) * 100000),)), (0, (((),) * 100000,)),
+]
+
 
 # --- a slow and plain telling of trees and automata
 
@@ -208,6 +224,17 @@ def alike_along(first, second, place, depth):
     return all(alike(at_place(first, place[:k]), at_place(second, place[:k]), depth) for k in range(len(place)))
 
 
+@functools.lru_cache(maxsize=None)
+def top(tree, depth):
+    """What is seen of the tree in its first levels, so that two trees are equal to the depth if it is the same."""
+    return () if depth == 0 else (tree[0],) + tuple([top(child, depth - 1) for child in tree[1:]])
+
+
+def path_tops(tree, place, depth):
+    """What is seen on the path to the place, so that two trees are equal along it if it is the same."""
+    return tuple([top(at_place(tree, place[:many]), depth) for many in range(len(place))])
+
+
 def entry_state(entry, states):
     for state in states:
         entry = entry[state]
@@ -248,6 +275,20 @@ def many_automata(seed, times, all_arities=tuple(MANY_ARITIES)):
     ]
 
 
+def random_table(chance, arities, many):
+    def entry(arity):
+        return None if chance.random() < 0.3 else tuple(chance.randrange(many) for _ in range(arity))
+    rows = tuple(tuple(entry(arity) for arity in arities) for _ in range(many))
+    return (chance.randrange(many), rows)
+
+
+def many_tables(seed, times):
+    """Pairs of arities and a table, the same each time, with 1 to 4 states."""
+    chance = random.Random(seed)
+    return [(arities, random_table(chance, arities, many))
+            for arities in MANY_ARITIES for many in (1, 2, 3, 4) for _ in range(times)]
+
+
 def reached_by_trees(automaton):
     """The states of trees, height by height, as an ascending tuple."""
     found = set()
@@ -271,6 +312,192 @@ def closed(automaton, chosen):
     )
 
 
+# --- exchange, word by word
+
+
+def couple_rank(first, second):
+    """Point 63: what puts two trees in order."""
+    return (nodes(first) + nodes(second), nodes(first), rank(first), rank(second))
+
+
+def couples_of(ones, others):
+    """All couples of one of the trees each, in order."""
+    return sorted(itertools.product(ones, others), key=lambda couple: couple_rank(*couple))
+
+
+def made(automaton, layer):
+    """Point 64: the pairs that some symbol makes from pairs of the layer."""
+    return {
+        tuple([entry_state(entry, [pair[side] for pair in chosen]) for side in (0, 1)])
+        for arity, entry in zip(automaton[0], automaton[2])
+        for chosen in itertools.product(layer, repeat=arity)
+    }
+
+
+def pairs_at(automaton, depth):
+    layer = set(itertools.product(reached_by_trees(automaton), repeat=2))
+    for _ in range(depth):
+        layer = made(automaton, layer)
+    return layer
+
+
+def climbed_from(automaton, triple, layer):
+    """Point 65: all triples that come from the triple by a climb with pairs of the layer, by the climb."""
+    found = {}
+    for symbol, (arity, entry) in enumerate(zip(automaton[0], automaton[2])):
+        if arity == 1:
+            found[(symbol, 0, None)] = tuple([entry[state] for state in triple])
+        for pair in layer if arity == 2 else ():
+            beside = (pair[0], pair[1], pair[0])
+            found[(symbol, 0, pair)] = tuple([entry[state][other] for state, other in zip(triple, beside)])
+            found[(symbol, 1, pair)] = tuple([entry[other][state] for state, other in zip(triple, beside)])
+    return found
+
+
+def met_with(automaton, layer):
+    """Point 65: the triples that are met, if the layer has the pairs at one level less."""
+    found = {(one, other, other) for one, other in layer}
+    while True:
+        come = {new for triple in found for new in climbed_from(automaton, triple, layer).values()}
+        if come <= found:
+            return found
+        found |= come
+
+
+def is_wrong_triple(automaton, triple):
+    flags = automaton[1]
+    return flags[triple[0]] and flags[triple[1]] and not flags[triple[2]]
+
+
+def closed_at(automaton, depth):
+    """Point 66."""
+    triples = met_with(automaton, pairs_at(automaton, depth - 1))
+    return not any(is_wrong_triple(automaton, triple) for triple in triples)
+
+
+def least_look(automaton):
+    """Point 73: the least look-ahead, or None: if one level more leaves the pairs as they are, so do all."""
+    layer, before, depth = pairs_at(automaton, 0), None, 1
+    while layer != before:
+        if not any(is_wrong_triple(automaton, triple) for triple in met_with(automaton, layer)):
+            return depth
+        layer, before, depth = made(automaton, layer), layer, depth + 1
+    return None
+
+
+def exchanged_from(trees, depth, most):
+    """Point 93: what comes from the trees by grafts, again and again, as far as all trees on the way have at most
+    so many nodes."""
+    found, waiting = set(trees), set(trees)
+    around, below = {}, {}
+    while waiting:
+        tree = waiting.pop()
+        for place in all_places(tree):
+            key, part = (place, path_tops(tree, place, depth)), at_place(tree, place)
+            rest = exchanged(tree, place, None)
+            come = [exchanged(rest, place, other) for other in below.setdefault(key, set())]
+            come += [exchanged(other, place, part) for other in around.setdefault(key, set())]
+            below[key].add(part)
+            around[key].add(rest)
+            waiting |= {new for new in come if new not in found and nodes(new) <= most}
+            found |= waiting
+    return found
+
+
+def takers_behind(table, symbol, below):
+    """The states whose entry for the symbol does not fail, and names a state of each set below."""
+    return tuple([
+        number for number, row in enumerate(table[1])
+        if row[symbol] is not None and all(one in chosen for one, chosen in zip(row[symbol], below))])
+
+
+def taken_by(automaton, table):
+    """The states of all trees, each with the set of the states from which the table takes the tree."""
+    found = set()
+    while True:
+        come = set()
+        for symbol, (arity, entry) in enumerate(zip(automaton[0], automaton[2])):
+            for chosen in itertools.product(found, repeat=arity):
+                takers = takers_behind(table, symbol, [pair[1] for pair in chosen])
+                come.add((entry_state(entry, [pair[0] for pair in chosen]), takers))
+        if come <= found:
+            return found
+        found |= come
+
+
+def table_automaton(arities, table):
+    """An automaton of the trees that a table of at most two states takes, with the takers as its states."""
+    start, rows = table
+    sets = [chosen for many in range(len(rows) + 1) for chosen in itertools.combinations(range(len(rows)), many)]
+
+    def entry(symbol, left, below):
+        if left:
+            return tuple([entry(symbol, left - 1, below + (chosen,)) for chosen in sets])
+        return sets.index(takers_behind(table, symbol, below))
+
+    steps = tuple([entry(symbol, arity, ()) for symbol, arity in enumerate(arities)])
+    return (tuple(arities), tuple([start in chosen for chosen in sets]), steps)
+
+
+# The two good trees of point 70; the trees with an even and with an odd number of leaves.
+SWAP = ((0, 0, 2), (False, False, True, False), (0, 1, ((3, 2, 3, 3), (2, 3, 3, 3), (3, 3, 3, 3), (3, 3, 3, 3))))
+PARITY = ((0, 2), (True, False), (1, ((0, 1), (1, 0))))
+ODD = ((0, 2), (False, True), PARITY[2])
+# The good trees of SWAP, with equally or unequally long chains of a symbol 3 above both leaves.
+CHAINS = (SWAP[0] + (1,), SWAP[1], SWAP[2] + ((0, 1, 3, 3),))
+
+# Pairs of a least look-ahead (point 73) and an automaton.
+LOOKS = [
+    (1, ((0, 0, 2), (False, False, True, False),
+         (0, 1, ((3, 2, 3, 3), (3, 3, 3, 3), (3, 3, 3, 3), (3, 3, 3, 3))))),
+    (1, ((0, 2), (True, False, True, False), (0, ((1, 2, 3, 3), (3, 3, 3, 3), (3, 3, 3, 3), (3, 3, 3, 3))))),
+    (2, SWAP),
+    (2, ((0, 0, 2), (False, True, True, False), (3, 1, ((3, 2, 3, 3), (3, 3, 2, 2), (3, 2, 3, 3), (1, 2, 3, 3))))),
+    (2, ((0, 2), (True, False, False, True), (2, ((2, 0, 2, 3), (0, 3, 3, 3), (3, 3, 3, 1), (2, 3, 3, 3))))),
+    (2, ((0, 1, 2), (False, True, False, True),
+         (1, (0, 3, 2, 3), ((3, 3, 3, 3), (0, 2, 0, 0), (3, 2, 3, 3), (3, 3, 3, 3))))),
+    (2, ((0, 2, 2), (False, False, False, True),
+         (2, ((1, 2, 3, 1), (2, 1, 3, 1), (3, 3, 3, 3), (3, 3, 3, 3)),
+          ((3, 3, 3, 2), (2, 3, 3, 1), (3, 3, 3, 3), (0, 3, 1, 1))))),
+    (2, ((2, 1, 0, 0), (False, False, True, True),
+         (((3, 1, 3, 3), (3, 3, 3, 3), (1, 3, 3, 3), (1, 2, 3, 3)), (2, 1, 3, 3), 0, 1))),
+    (3, ((0, 2), (False, True, False, False), (2, ((3, 3, 3, 3), (3, 3, 3, 3), (3, 3, 0, 3), (1, 3, 3, 3))))),
+    (3, ((0, 0, 2), (False, True, True, True), (2, 1, ((3, 3, 3, 3), (3, 2, 3, 3), (3, 3, 0, 3), (3, 3, 3, 3))))),
+    (3, ((0, 1, 1, 2), (True, True, True, False),
+         (1, (0, 0, 0, 3), (3, 2, 0, 0), ((3, 3, 3, 3), (0, 3, 0, 3), (3, 3, 3, 3), (3, 3, 0, 3))))),
+    (4, ((0, 0, 1, 2), (False, False, True, False),
+         (1, 1, (2, 1, 3, 3), ((0, 3, 0, 0), (0, 2, 3, 3), (3, 3, 0, 3), (3, 3, 3, 3))))),
+    (4, ((0, 1, 2), (True, True, False, False),
+         (2, (1, 3, 0, 3), ((3, 1, 3, 3), (3, 2, 3, 3), (2, 3, 2, 3), (3, 3, 3, 3))))),
+    (None, PARITY), (None, ODD), (None, CHAINS),
+]
+BRANCHING = [arities for arities in MANY_ARITIES if 0 in arities and 2 in arities]
+
+
+def looking_automata(seed, times):
+    """Automata of all kinds, the same each time: closed at the depth 1, at a greater one, or at none; with few good
+    trees, and with all or no states good; with 1 to 4 states; for arities without a leaf, too."""
+    chance = random.Random(seed)
+    found = [automaton for _, automaton in LOOKS]
+    for arities in MANY_ARITIES:
+        for many in (1, 2, 3, 4):
+            found.append(random_automaton(chance, arities, many))
+        for many in (1, 2):
+            found.append(table_automaton(arities, random_table(chance, arities, many)))
+        found.append((arities, (True,) * 3, random_automaton(chance, arities, 3)[2]))
+        found.append((arities, (False,) * 3, random_automaton(chance, arities, 3)[2]))
+    for arities in BRANCHING:
+        for many in (3, 4):
+            for _ in range(2 * times):
+                found.append(random_automaton(chance, arities, many))
+            for _ in range(times):
+                _, flags, steps = random_automaton(chance, arities, many)
+                found.append((arities, flags[:-1] + (False,), tuple([
+                    tuple([tuple([many - 1 if chance.random() < 0.6 else one for one in row]) for row in entry])
+                    if arity == 2 else entry for arity, entry in zip(arities, steps)])))
+    return found
+
+
 # --- evidence, and the same with one thing changed
 
 
@@ -283,6 +510,22 @@ def is_one_of(value, many):
     return is_whole(value) and 0 <= value < many
 
 
+def is_set_of(value, many):
+    """Whether the value is a set of some of so many states."""
+    return type(value) is tuple and all(is_one_of(one, many) for one in value) and list(value) == sorted(set(value))
+
+
+def are_tuples_of(value, length, many):
+    """Whether the value is an ascending tuple of different tuples of this length of some of so many states."""
+    if type(value) is not tuple or not all(type(one) is tuple and len(one) == length for one in value):
+        return False
+    return all(is_one_of(state, many) for one in value for state in one) and list(value) == sorted(set(value))
+
+
+def is_plain_place(value):
+    return type(value) is tuple and len(value) <= 14 and all(is_one_of(number, 2) for number in value)
+
+
 def is_plain_tree(arities, value):
     """Whether the value is a tree, told by making it node by node."""
     def count(node, left):
@@ -292,6 +535,36 @@ def is_plain_tree(arities, value):
             return 1000
         return 1 + sum(count(child, left - 1) for child in node[1:])
     return count(value, 15) <= 15
+
+
+def is_plain_seal(automaton, depth, value):
+    """Point 67, word by word: whether the value is evidence that the good trees are closed at the depth."""
+    many = len(automaton[1])
+    if type(value) is not tuple or len(value) != 3 or not is_set_of(value[0], many):
+        return False
+    states, layers, triples = value
+    if type(layers) is not tuple or len(layers) != depth or not all(are_tuples_of(one, 2, many) for one in layers):
+        return False
+    if not are_tuples_of(triples, 3, many) or not closed(automaton, states):
+        return False
+    if not set(itertools.product(states, repeat=2)) <= set(layers[0]):
+        return False
+    if not all(made(automaton, layers[at]) <= set(layers[at + 1]) for at in range(depth - 1)):
+        return False
+    if not {(one, other, other) for one, other in layers[-1]} <= set(triples):
+        return False
+    if not all(set(climbed_from(automaton, one, layers[-1]).values()) <= set(triples) for one in triples):
+        return False
+    return not any(is_wrong_triple(automaton, triple) for triple in triples)
+
+
+def plain_seal(automaton, depth):
+    """Point 67: the told evidence, or None if the good trees are not closed at the depth."""
+    layers = [pairs_at(automaton, less) for less in range(depth)]
+    triples = met_with(automaton, layers[-1])
+    if any(is_wrong_triple(automaton, triple) for triple in triples):
+        return None
+    return (reached_by_trees(automaton), tuple([tuple(sorted(one)) for one in layers]), tuple(sorted(triples)))
 
 
 def changed(value):

@@ -42,6 +42,20 @@ FUNCTIONS = {
         "is_table": "arities value", "run": "arities table tree", "takers": "arities table tree",
         "received": "arities table",
     },
+    "sameness": {
+        "telling_tree": "arities first second", "same_evidence": "arities first second",
+        "accepts_same": "arities first second value",
+    },
+    "layers": {"pairs": "automaton depth"},
+    "exchange": {
+        "is_closed": "automaton depth", "counterexample": "automaton depth size",
+        "accepts_counterexample": "automaton depth value",
+    },
+    "sealing": {"closed_evidence": "automaton depth", "accepts_closed": "automaton depth value"},
+    "lookahead": {
+        "stable_depth": "automaton", "look_ahead": "automaton", "pair_trees": "automaton depth first second size",
+        "accepts_pair": "automaton depth first second value",
+    },
 }
 
 

@@ -6,7 +6,7 @@ import unittest
 
 from rootfirst.topdown import is_table, received, run, takers
 from tests import helpers
-from tests.helpers import Case, all_places, all_trees, at_place, exchanged
+from tests.helpers import WRONG_TABLES, Case, all_places, all_trees, at_place, exchanged, many_tables, random_table
 
 ARITIES = (0, 0, 2)
 TABLE = (0, (((), None, (0, 1)), (None, (), None)))
@@ -15,20 +15,6 @@ MIXED = (0, 1, 2)
 THREE = (0, (((), (1,), (2, 0)), ((), (1,), (1, 1)), ((), None, None)))
 ALL_OF = (0, (((), (0,), (0, 0)),))
 NO_LEAF = (0, (((0,), (0, 0)),))
-
-
-def random_table(chance, arities, many):
-    def entry(arity):
-        return None if chance.random() < 0.3 else tuple(chance.randrange(many) for _ in range(arity))
-    rows = tuple(tuple(entry(arity) for arity in arities) for _ in range(many))
-    return (chance.randrange(many), rows)
-
-
-def many_tables(seed, times):
-    """Pairs of arities and a table, the same each time, with 1 to 4 states."""
-    chance = random.Random(seed)
-    return [(arities, random_table(chance, arities, many))
-            for arities in helpers.MANY_ARITIES for many in (1, 2, 3, 4) for _ in range(times)]
 
 
 def given(table, tree):
@@ -104,20 +90,6 @@ class Tables(Case):
             for number, value in enumerate(helpers.changed(table)):
                 with self.subTest(number=number):
                     self.same(is_table(MIXED, value), plain(value))
-
-
-WRONG_TABLES = [
-    None, True, 0, "", [], (), (0,), [0, ALL_OF[1]], (0, list(ALL_OF[1])), (0, ALL_OF[1], ()), (0, ()), (1, ALL_OF[1]),
-    (-1, ALL_OF[1]), (None, ALL_OF[1]), (False, ALL_OF[1]), ("0", ALL_OF[1]), ((0,), ALL_OF[1]), (0, ALL_OF[1] * 5),
-    (0, (None,)), (0, ([(), (0,), (0, 0)],)), (0, (((), (0,)),)), (0, (((), (0,), (0, 0), ()),)), (0, ((),)),
-    (0, ((0, (0,), (0, 0)),)), (0, (((), 0, (0, 0)),)), (0, (((), (), (0, 0)),)), (0, (((), (0, 0), (0, 0)),)),
-    (0, (((), (0,), (0,)),)), (0, (((), (0,), (0, 0, 0)),)), (0, (((), [0], (0, 0)),)), (0, (((), (1,), (0, 0)),)),
-    (0, (((), (-1,), (0, 0)),)), (0, (((), (False,), (0, 0)),)), (0, (((), (None,), (0, 0)),)),
-    (0, (((0,), (0,), (0, 0)),)), (0, (((), (0,), (0, True)),) * 2), (0, ((False, (0,), (0, 0)),)),
-    (0, (([], (0,), (0, 0)),)), helpers.DEEP, helpers.DEEP_LIST, (helpers.DEEP, ALL_OF[1]), (0, helpers.DEEP),
-    (0, (helpers.DEEP,)), (0, ((helpers.DEEP, (0,), (0, 0)),)), (0, (((), (helpers.DEEP,), (0, 0)),)),
-    (0, ALL_OF[1] * 100000), (0, (((), (0,), (0,) * 100000),)), (0, (((),) * 100000,)),
-]
 
 
 class Running(Case):

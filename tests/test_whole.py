@@ -6,14 +6,20 @@ import re
 import unittest
 
 from rootfirst.errors import TreeError
+from rootfirst.exchange import accepts_counterexample, counterexample, is_closed
+from rootfirst.layers import pairs
 from rootfirst.listing import count_good, good_from, nth_good
+from rootfirst.lookahead import accepts_pair, look_ahead, pair_trees, stable_depth
 from rootfirst.runs import accepts_run, fitting, reached, run, takes, tree_state
+from rootfirst.sameness import accepts_same, same_evidence, telling_tree
+from rootfirst.sealing import accepts_closed, closed_evidence
 from rootfirst.trees import are_equal_to, graft, is_before, is_tree, part, places, put, sizes
 from tests import helpers
-from tests.helpers import Case, all_trees
+from tests.helpers import SWAP, Case, all_trees
 
 FOLDER = pathlib.Path(__file__).resolve().parent.parent / "rootfirst"
 EVEN = ((0, 0, 2), (True, False, False), (0, 1, ((0, 1, 2), (1, 0, 2), (2, 2, 2))))
+TABLE, NONE = (0, (((), (), (0, 0)),)), (0, ((None, None, None),))
 TREE = (2, (0,), (2, (1,), (0,)))
 ARITIES = EVEN[0]
 
@@ -47,14 +53,23 @@ class Whole(Case):
         """Point 3."""
         for value in (sizes(ARITIES, TREE), part(ARITIES, TREE, (1,)), put(ARITIES, TREE, (0,), TREE),
                       graft(ARITIES, TREE, TREE, (0,)), run(EVEN, TREE), fitting(EVEN, TREE, ()), reached(EVEN),
-                      nth_good(EVEN, 0)):
+                      nth_good(EVEN, 0), telling_tree(ARITIES, TABLE, NONE), same_evidence(ARITIES, TABLE, TABLE),
+                      pairs(EVEN, 1), counterexample(EVEN, 1, 6), closed_evidence(SWAP, 2),
+                      pair_trees(EVEN, 1, 0, 1, 6)):
             self.assertIs(type(value), tuple)
         for value in (places(ARITIES, TREE), good_from(EVEN, 0, 1)):
             self.assertIs(type(value), list)
-        for value in (tree_state(EVEN, TREE), count_good(EVEN, 1)):
+        for value in (tree_state(EVEN, TREE), count_good(EVEN, 1), stable_depth(EVEN), look_ahead(SWAP)):
             self.assertIs(type(value), int)
         for value in (takes(EVEN, TREE), is_tree(ARITIES, TREE), is_tree(ARITIES, None), is_before(ARITIES, TREE, TREE),
-                      are_equal_to(ARITIES, TREE, TREE, 0), accepts_run(EVEN, TREE, None)):
+                      are_equal_to(ARITIES, TREE, TREE, 0), accepts_run(EVEN, TREE, None), is_closed(EVEN, 1),
+                      is_closed(SWAP, 2),
+                      accepts_same(ARITIES, TABLE, TABLE, same_evidence(ARITIES, TABLE, TABLE)),
+                      accepts_same(ARITIES, TABLE, TABLE, ()),
+                      accepts_counterexample(EVEN, 1, counterexample(EVEN, 1, 6)),
+                      accepts_counterexample(EVEN, 1, None),
+                      accepts_closed(SWAP, 2, closed_evidence(SWAP, 2)), accepts_closed(SWAP, 2, None),
+                      accepts_pair(EVEN, 1, 0, 1, pair_trees(EVEN, 1, 0, 1, 6)), accepts_pair(EVEN, 1, 0, 1, None)):
             self.assertIs(type(value), bool)
 
     def test_true_and_false_are_no_integers(self):
