@@ -56,6 +56,14 @@ FUNCTIONS = {
         "stable_depth": "automaton", "look_ahead": "automaton", "pair_trees": "automaton depth first second size",
         "accepts_pair": "automaton depth first second value",
     },
+    "looking": {"look_evidence": "automaton", "accepts_look": "automaton value"},
+    "least": {"least_table": "automaton", "stands_for": "automaton", "is_enough": "automaton"},
+    "right": {
+        "wrong_tree": "automaton table", "right_evidence": "automaton table", "accepts_right": "automaton table value",
+    },
+    "closure": {
+        "sets_along": "automaton depth tree", "is_let_in": "automaton depth tree", "first_extra": "automaton depth",
+    },
 }
 
 

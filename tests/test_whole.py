@@ -5,11 +5,15 @@ import pathlib
 import re
 import unittest
 
+from rootfirst.closure import first_extra, is_let_in, sets_along
 from rootfirst.errors import TreeError
 from rootfirst.exchange import accepts_counterexample, counterexample, is_closed
 from rootfirst.layers import pairs
+from rootfirst.least import is_enough, least_table, stands_for
 from rootfirst.listing import count_good, good_from, nth_good
 from rootfirst.lookahead import accepts_pair, look_ahead, pair_trees, stable_depth
+from rootfirst.looking import accepts_look, look_evidence
+from rootfirst.right import accepts_right, right_evidence, wrong_tree
 from rootfirst.runs import accepts_run, fitting, reached, run, takes, tree_state
 from rootfirst.sameness import accepts_same, same_evidence, telling_tree
 from rootfirst.sealing import accepts_closed, closed_evidence
@@ -55,7 +59,10 @@ class Whole(Case):
                       graft(ARITIES, TREE, TREE, (0,)), run(EVEN, TREE), fitting(EVEN, TREE, ()), reached(EVEN),
                       nth_good(EVEN, 0), telling_tree(ARITIES, TABLE, NONE), same_evidence(ARITIES, TABLE, TABLE),
                       pairs(EVEN, 1), counterexample(EVEN, 1, 6), closed_evidence(SWAP, 2),
-                      pair_trees(EVEN, 1, 0, 1, 6)):
+                      pair_trees(EVEN, 1, 0, 1, 6),
+                      look_evidence(EVEN), look_evidence(SWAP), least_table(EVEN), stands_for(EVEN),
+                      wrong_tree(EVEN, TABLE), right_evidence(((0, 0, 2), (True,), (0, 0, ((0,),))), TABLE),
+                      sets_along(EVEN, 1, TREE), first_extra(EVEN, 1)):
             self.assertIs(type(value), tuple)
         for value in (places(ARITIES, TREE), good_from(EVEN, 0, 1)):
             self.assertIs(type(value), list)
@@ -63,13 +70,15 @@ class Whole(Case):
             self.assertIs(type(value), int)
         for value in (takes(EVEN, TREE), is_tree(ARITIES, TREE), is_tree(ARITIES, None), is_before(ARITIES, TREE, TREE),
                       are_equal_to(ARITIES, TREE, TREE, 0), accepts_run(EVEN, TREE, None), is_closed(EVEN, 1),
-                      is_closed(SWAP, 2),
+                      is_closed(SWAP, 2), is_enough(EVEN), is_let_in(EVEN, 1, TREE),
                       accepts_same(ARITIES, TABLE, TABLE, same_evidence(ARITIES, TABLE, TABLE)),
                       accepts_same(ARITIES, TABLE, TABLE, ()),
                       accepts_counterexample(EVEN, 1, counterexample(EVEN, 1, 6)),
                       accepts_counterexample(EVEN, 1, None),
                       accepts_closed(SWAP, 2, closed_evidence(SWAP, 2)), accepts_closed(SWAP, 2, None),
-                      accepts_pair(EVEN, 1, 0, 1, pair_trees(EVEN, 1, 0, 1, 6)), accepts_pair(EVEN, 1, 0, 1, None)):
+                      accepts_pair(EVEN, 1, 0, 1, pair_trees(EVEN, 1, 0, 1, 6)), accepts_pair(EVEN, 1, 0, 1, None),
+                      accepts_look(EVEN, look_evidence(EVEN)), accepts_look(SWAP, look_evidence(SWAP)),
+                      accepts_look(EVEN, None), accepts_right(EVEN, TABLE, None), accepts_right(EVEN, TABLE, ())):
             self.assertIs(type(value), bool)
 
     def test_true_and_false_are_no_integers(self):
