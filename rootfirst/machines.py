@@ -15,8 +15,13 @@ def lead(entry, states):
 
 def choices(rows, many):
     """Returns the list of the tuples of so many of the items, in the order of the items."""
+    return one_of_each([rows for _ in range(many)])
+
+
+def one_of_each(lists):
+    """Returns the list of the tuples with an item of each of the lists, in the order of the items."""
     found = [()]
-    for _ in range(many):
+    for rows in lists:
         found = [choice + (row,) for choice in found for row in rows]
     return found
 

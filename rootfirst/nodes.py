@@ -1,9 +1,19 @@
 """What can be told of trees whose form is known to be right."""
 
+from rootfirst.errors import TooLarge
+from rootfirst.forms import MOST_NODES
+
 
 def size_of(tree):
     """Returns the number of the nodes."""
     return 1 + sum([size_of(child) for child in tree[1:]])
+
+
+def bounded(tree):
+    """Returns the tree, and refuses one with too many nodes."""
+    if size_of(tree) > MOST_NODES:
+        raise TooLarge("tree")
+    return tree
 
 
 def height_of(tree):

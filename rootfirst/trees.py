@@ -1,9 +1,9 @@
 """Arities, trees, their places and parts, and the graft of two trees."""
 
-from rootfirst.errors import NotPossible, TooLarge
+from rootfirst.errors import NotPossible
 from rootfirst.forms import MOST_CHILDREN, MOST_NODES, MOST_SYMBOLS, are_integers, is_integer, is_tuple, require
 from rootfirst.nodes import (
-    are_alike, are_alike_along, depth_alike, height_of, order_key, part_at, places_of, replaced, size_of,
+    are_alike, are_alike_along, bounded, depth_alike, height_of, order_key, part_at, places_of, replaced, size_of,
 )
 
 LONGEST_PLACE = 14
@@ -59,13 +59,6 @@ def _require_had(trees, place):
             raise NotPossible("place")
 
 
-def _bounded(tree):
-    """Returns the tree, and refuses one with too many nodes."""
-    if size_of(tree) > MOST_NODES:
-        raise TooLarge("tree")
-    return tree
-
-
 def sizes(arities, tree):
     """Returns the pair of the size and the height."""
     _require_tree(arities, tree, "tree")
@@ -91,7 +84,7 @@ def put(arities, tree, place, other):
     require(is_place(place), "place")
     require(is_tree(arities, other), "other")
     _require_had((tree,), place)
-    return _bounded(replaced(tree, place, other))
+    return bounded(replaced(tree, place, other))
 
 
 def is_before(arities, first, second):
@@ -127,4 +120,4 @@ def graft(arities, first, second, place):
     _require_two(arities, first, second)
     require(is_place(place), "place")
     _require_had((first, second), place)
-    return _bounded(replaced(first, place, part_at(second, place)))
+    return bounded(replaced(first, place, part_at(second, place)))

@@ -6,7 +6,7 @@ import itertools
 import random
 import unittest
 
-from rootfirst.errors import BadValue, NotPossible, TooLarge
+from rootfirst.errors import BadValue, NotPossible, TextError, TooLarge
 
 
 class Case(unittest.TestCase):
@@ -51,6 +51,14 @@ class Case(unittest.TestCase):
                     if chosen[at]:
                         arguments[at] = wrongs[at][1][0]
                 self.bad(wrongs[chosen.index(True)][0], function, *arguments)
+
+
+class TextCase(Case):
+    def wrong_text(self, column, words, function, *arguments):
+        with self.assertRaises(TextError) as caught:
+            function(*arguments)
+        error = caught.exception
+        self.assertEqual((type(error.column), error.column, error.words), (int, column, words), arguments[-1])
 
 
 def nested(many, value=()):
@@ -128,6 +136,11 @@ WRONG_AUTOMATA = [
     DEEP, DEEP_LIST, (DEEP, (True,), (0,)), ((0,), DEEP, (0,)), ((0,), (DEEP,), (0,)), ((0,), (True,), DEEP),
     ((0,), (True,), (DEEP,)), ((1,), (True,), (DEEP,)), ((2,), (True,), ((DEEP,),)), ((0,), (True,), (DEEP_LIST,)),
     ((0,), (True,) * 100000, (0,)), ((0,), (True,), (0,) * 100000),
+]
+
+WRONG_TEXTS = [
+    None, True, False, 0, 1, (), ("a",), [], ["a"], b"a", "\n", "a\n", "\na", "a" * 1001, " " * 1001, "a" * 100000,
+    "a" * 1000 + "\n", DEEP, DEEP_LIST,
 ]
 
 # For the arities (0, 1, 2), beside the rows of a table that is right.
@@ -402,6 +415,45 @@ def exchanged_from(trees, depth, most):
             waiting |= {new for new in come if new not in found and nodes(new) <= most}
             found |= waiting
     return found
+
+
+def plain_sets(automaton, depth, tree):
+    """Point 94, word by word: the set of each place that gets one, and the places that fail."""
+    arities, flags, entries = automaton
+    reached = reached_by_trees(automaton)
+
+    def alike_states(part, many):
+        if many == 0:
+            return set(reached)
+        below = [alike_states(child, many - 1) for child in part[1:]]
+        return {entry_state(entries[part[0]], chosen) for chosen in itertools.product(*below)}
+
+    sets, failing = {(): {state for state in reached if flags[state]}}, []
+    for place in all_places(tree):
+        if place not in sets:
+            continue
+        goal, part = sets[place], at_place(tree, place)
+        if not alike_states(part, depth) & goal:
+            failing.append(place)
+            continue
+        entry = entries[part[0]]
+        if len(part) == 2:
+            sets[place + (0,)] = {state for state in reached if entry[state] in goal}
+        if len(part) == 3:
+            first, second = alike_states(part[1], depth - 1), alike_states(part[2], depth - 1)
+            sets[place + (0,)] = {one for one in reached if any(entry[one][other] in goal for other in second)}
+            sets[place + (1,)] = {one for one in reached if any(entry[other][one] in goal for other in first)}
+    return {place: tuple(sorted(sets[place])) for place in sets}, failing
+
+
+def is_plainly_let_in(automaton, depth, tree):
+    return plain_sets(automaton, depth, tree)[1] == []
+
+
+@functools.lru_cache(maxsize=None)
+def greater_trees(arities):
+    most = {(0, 2): 13, (2, 0): 13, (0, 2, 2): 11, (0, 0, 2): 9, (0, 1, 2): 10, (1, 2, 0): 10}.get(arities, 8)
+    return all_trees(arities, most)
 
 
 def takers_behind(table, symbol, below):

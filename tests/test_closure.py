@@ -1,6 +1,5 @@
 """What must be let in: points 93 to 97 and 101 to 103, and rootfirst/closure.py."""
 
-import functools
 import itertools
 import random
 import unittest
@@ -11,9 +10,9 @@ from rootfirst.exchange import is_closed
 from rootfirst.least import least_table, stands_for
 from tests import helpers
 from tests.helpers import (
-    BRANCHING, CHAINS, LOOKS, ODD, PARITY, SWAP, Case, all_places, all_trees, at_place, entry_state, exchanged,
-    exchanged_from, good, levels, looking_automata, nested_tree, nodes, path_tops, perfect_tree, random_automaton,
-    reached_by_trees, top,
+    BRANCHING, CHAINS, LOOKS, ODD, PARITY, SWAP, Case, all_places, all_trees, at_place, exchanged, exchanged_from, good,
+    greater_trees, is_plainly_let_in, levels, looking_automata, nested_tree, nodes, path_tops, perfect_tree, plain_sets,
+    random_automaton, top,
 )
 
 MIXED = ((0, 1, 2), (True, False), (0, (1, 0), ((0, 1), (1, 0))))
@@ -36,48 +35,9 @@ EXTRA = [
 ]
 
 
-def plain_sets(automaton, depth, tree):
-    """Point 94, word by word: the set of each place that gets one, and the places that fail."""
-    arities, flags, entries = automaton
-    reached = reached_by_trees(automaton)
-
-    def alike_states(part, many):
-        if many == 0:
-            return set(reached)
-        below = [alike_states(child, many - 1) for child in part[1:]]
-        return {entry_state(entries[part[0]], chosen) for chosen in itertools.product(*below)}
-
-    sets, failing = {(): {state for state in reached if flags[state]}}, []
-    for place in all_places(tree):
-        if place not in sets:
-            continue
-        goal, part = sets[place], at_place(tree, place)
-        if not alike_states(part, depth) & goal:
-            failing.append(place)
-            continue
-        entry = entries[part[0]]
-        if len(part) == 2:
-            sets[place + (0,)] = {state for state in reached if entry[state] in goal}
-        if len(part) == 3:
-            first, second = alike_states(part[1], depth - 1), alike_states(part[2], depth - 1)
-            sets[place + (0,)] = {one for one in reached if any(entry[one][other] in goal for other in second)}
-            sets[place + (1,)] = {one for one in reached if any(entry[other][one] in goal for other in first)}
-    return {place: tuple(sorted(sets[place])) for place in sets}, failing
-
-
-def is_plainly_let_in(automaton, depth, tree):
-    return plain_sets(automaton, depth, tree)[1] == []
-
-
 def some_trees(arities, more=0):
     most = {(0, 2): 9, (2, 0): 9, (0, 0, 2): 5, (0, 1, 2): 6, (1, 2, 0): 6, (0, 1): 9, (1, 0): 9}.get(arities, 4)
     return all_trees(arities, most + more)
-
-
-@functools.lru_cache(maxsize=None)
-def greater_trees(arities):
-    most = {(0, 2): 13, (2, 0): 13, (0, 2, 2): 11, (0, 0, 2): 9, (0, 1, 2): 10, (1, 2, 0): 10}.get(arities, 8)
-    return all_trees(arities, most)
 
 
 def is_derived(automaton, depth, tree):

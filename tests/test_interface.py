@@ -64,6 +64,10 @@ FUNCTIONS = {
     "closure": {
         "sets_along": "automaton depth tree", "is_let_in": "automaton depth tree", "first_extra": "automaton depth",
     },
+    "derivations": {"told_derivation": "automaton depth tree", "derives": "automaton depth tree value"},
+    "scanning": {"scan": "text"},
+    "reading": {"next_tokens": "text kind", "read_tree": "arities text", "read_automaton": "text"},
+    "writing": {"tree_text": "arities tree", "automaton_text": "automaton"},
 }
 
 

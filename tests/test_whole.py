@@ -6,6 +6,7 @@ import re
 import unittest
 
 from rootfirst.closure import first_extra, is_let_in, sets_along
+from rootfirst.derivations import derives, told_derivation
 from rootfirst.errors import TreeError
 from rootfirst.exchange import accepts_counterexample, counterexample, is_closed
 from rootfirst.layers import pairs
@@ -13,11 +14,14 @@ from rootfirst.least import is_enough, least_table, stands_for
 from rootfirst.listing import count_good, good_from, nth_good
 from rootfirst.lookahead import accepts_pair, look_ahead, pair_trees, stable_depth
 from rootfirst.looking import accepts_look, look_evidence
+from rootfirst.reading import next_tokens, read_automaton, read_tree
 from rootfirst.right import accepts_right, right_evidence, wrong_tree
 from rootfirst.runs import accepts_run, fitting, reached, run, takes, tree_state
 from rootfirst.sameness import accepts_same, same_evidence, telling_tree
+from rootfirst.scanning import scan
 from rootfirst.sealing import accepts_closed, closed_evidence
 from rootfirst.trees import are_equal_to, graft, is_before, is_tree, part, places, put, sizes
+from rootfirst.writing import automaton_text, tree_text
 from tests import helpers
 from tests.helpers import SWAP, Case, all_trees
 
@@ -62,10 +66,13 @@ class Whole(Case):
                       pair_trees(EVEN, 1, 0, 1, 6),
                       look_evidence(EVEN), look_evidence(SWAP), least_table(EVEN), stands_for(EVEN),
                       wrong_tree(EVEN, TABLE), right_evidence(((0, 0, 2), (True,), (0, 0, ((0,),))), TABLE),
-                      sets_along(EVEN, 1, TREE), first_extra(EVEN, 1)):
+                      sets_along(EVEN, 1, TREE), first_extra(EVEN, 1), told_derivation(SWAP, 1, (2, (0,), (0,))),
+                      scan("a")[0], read_tree(ARITIES, "a"), read_automaton(automaton_text(EVEN))):
             self.assertIs(type(value), tuple)
-        for value in (places(ARITIES, TREE), good_from(EVEN, 0, 1)):
+        for value in (places(ARITIES, TREE), good_from(EVEN, 0, 1), scan("a"), next_tokens("a", "tree")):
             self.assertIs(type(value), list)
+        for value in (tree_text(ARITIES, TREE), automaton_text(EVEN), scan("a")[0][0], next_tokens("a", "tree")[0]):
+            self.assertIs(type(value), str)
         for value in (tree_state(EVEN, TREE), count_good(EVEN, 1), stable_depth(EVEN), look_ahead(SWAP)):
             self.assertIs(type(value), int)
         for value in (takes(EVEN, TREE), is_tree(ARITIES, TREE), is_tree(ARITIES, None), is_before(ARITIES, TREE, TREE),
@@ -78,7 +85,9 @@ class Whole(Case):
                       accepts_closed(SWAP, 2, closed_evidence(SWAP, 2)), accepts_closed(SWAP, 2, None),
                       accepts_pair(EVEN, 1, 0, 1, pair_trees(EVEN, 1, 0, 1, 6)), accepts_pair(EVEN, 1, 0, 1, None),
                       accepts_look(EVEN, look_evidence(EVEN)), accepts_look(SWAP, look_evidence(SWAP)),
-                      accepts_look(EVEN, None), accepts_right(EVEN, TABLE, None), accepts_right(EVEN, TABLE, ())):
+                      accepts_look(EVEN, None), accepts_right(EVEN, TABLE, None), accepts_right(EVEN, TABLE, ()),
+                      derives(SWAP, 2, (2, (0,), (0,)), None),
+                      derives(SWAP, 1, (2, (0,), (0,)), told_derivation(SWAP, 1, (2, (0,), (0,))))):
             self.assertIs(type(value), bool)
 
     def test_true_and_false_are_no_integers(self):
