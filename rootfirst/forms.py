@@ -51,3 +51,26 @@ def are_state_tuples(value, length, many):
     if not isinstance(value, tuple) or not all([is_tuple(row, length, length) for row in value]):
         return False
     return all([are_integers(row, 0, many - 1) for row in value]) and is_ascending(value)
+
+
+def is_tree_form(arities, value, with_holes):
+    """Returns True if the value is a tree for the arities, of which parts can be None if it can have holes."""
+    waiting = [value]
+    nodes = 0
+    while waiting:
+        node = waiting.pop()
+        nodes += 1
+        if nodes > MOST_NODES:
+            return False
+        if node is not None or not with_holes:
+            if not _is_node(arities, node):
+                return False
+            waiting.extend(node[1:])
+    return True
+
+
+def _is_node(arities, value):
+    """Returns True if the value has a symbol and as many items behind it as its arity says."""
+    if not is_tuple(value, 1, MOST_CHILDREN + 1) or not is_integer(value[0], 0, len(arities) - 1):
+        return False
+    return len(value) == 1 + arities[value[0]]

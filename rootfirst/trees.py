@@ -1,7 +1,7 @@
 """Arities, trees, their places and parts, and the graft of two trees."""
 
 from rootfirst.errors import NotPossible
-from rootfirst.forms import MOST_CHILDREN, MOST_NODES, MOST_SYMBOLS, are_integers, is_integer, is_tuple, require
+from rootfirst.forms import MOST_CHILDREN, MOST_SYMBOLS, are_integers, is_integer, is_tree_form, is_tuple, require
 from rootfirst.nodes import (
     are_alike, are_alike_along, bounded, depth_alike, height_of, order_key, part_at, places_of, replaced, size_of,
 )
@@ -17,22 +17,7 @@ def is_arities(value):
 
 def is_tree(arities, value):
     """Returns True if the value is a tree for the arities, which are not checked."""
-    waiting = [value]
-    nodes = 0
-    while waiting:
-        node = waiting.pop()
-        nodes += 1
-        if nodes > MOST_NODES or not _is_node(arities, node):
-            return False
-        waiting.extend(node[1:])
-    return True
-
-
-def _is_node(arities, value):
-    """Returns True if the value has a symbol and as many items behind it as its arity says."""
-    if not is_tuple(value, 1, MOST_CHILDREN + 1) or not is_integer(value[0], 0, len(arities) - 1):
-        return False
-    return len(value) == 1 + arities[value[0]]
+    return is_tree_form(arities, value, False)
 
 
 def is_place(value):

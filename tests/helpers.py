@@ -75,9 +75,8 @@ def nested_list(many):
     return value
 
 
-def nested_tree(many):
-    """A tree of so many nodes and the leaf 0, each with the symbol 1 and one child."""
-    value = (0,)
+def nested_tree(many, value=(0,)):
+    """A tree of so many nodes and the leaf 0 (or another end), each with the symbol 1 and one child."""
     for _ in range(many):
         value = (1, value)
     return value
@@ -136,6 +135,16 @@ WRONG_AUTOMATA = [
     DEEP, DEEP_LIST, (DEEP, (True,), (0,)), ((0,), DEEP, (0,)), ((0,), (DEEP,), (0,)), ((0,), (True,), DEEP),
     ((0,), (True,), (DEEP,)), ((1,), (True,), (DEEP,)), ((2,), (True,), ((DEEP,),)), ((0,), (True,), (DEEP_LIST,)),
     ((0,), (True,) * 100000, (0,)), ((0,), (True,), (0,) * 100000),
+]
+
+# For the arities (0, 1, 2).
+WRONG_SKETCHES = [
+    True, False, 0, "0", [0], [None], [], (), (3,), (-1,), (True,), (False,), (None,), ("0",), ((0,),), (0, (0,)),
+    (0, None), (1,), (1, 0), (1, [None]), (1, None, None), (2,), (2, None), (2, (0,), 0), (2, (0,), ()), (2, [0], None),
+    (2, None, None, None), (None, (0,)), (None, None, None), (True, None), (1, (1, (2, (0,), (1,)))), (1, (0, None)),
+    nested_tree(15), nested_tree(15, None), perfect_tree(5), perfect_tree(60), nested_tree(5000),
+    nested_tree(5000, None), (2, None, nested_tree(5000)), (1, DEEP), DEEP, DEEP_LIST, (1, DEEP_LIST),
+    (None,) * 100000, (DEEP, None),
 ]
 
 WRONG_TEXTS = [
@@ -456,6 +465,78 @@ def greater_trees(arities):
     return all_trees(arities, most)
 
 
+# --- trees in part
+
+
+def all_sketches(arities, most):
+    """All sketches with at most so many nodes, holes counted."""
+    def with_holes(tree):
+        return None if tree[0] == len(arities) else (tree[0],) + tuple([with_holes(child) for child in tree[1:]])
+    return [with_holes(tree) for tree in all_trees(arities + (0,), most)]
+
+
+def plain_holes(sketch, place=()):
+    if sketch is None:
+        return [place]
+    return [hole for number, child in enumerate(sketch[1:]) for hole in plain_holes(child, place + (number,))]
+
+
+def count_nodes(sketch):
+    return 1 if sketch is None else 1 + sum(count_nodes(child) for child in sketch[1:])
+
+
+def filled(sketch, trees):
+    """The sketch with the trees in its holes, one for each of them, in order."""
+    for place, tree in zip(plain_holes(sketch), trees):
+        sketch = exchanged(sketch, place, tree)
+    return sketch
+
+
+def completes(sketch, tree):
+    """Whether the tree is a completion: each node of the sketch stands in it."""
+    if sketch is None:
+        return True
+    return sketch[0] == tree[0] and all(completes(one, other) for one, other in zip(sketch[1:], tree[1:]))
+
+
+@functools.lru_cache(maxsize=None)
+def tree_of_each(automaton):
+    """A tree for each state that some tree has, made height by height."""
+    found = {}
+    while True:
+        come = {}
+        for symbol, arity in enumerate(automaton[0]):
+            for children in itertools.product(list(found.values()), repeat=arity):
+                come.setdefault(state(automaton, (symbol, *children)), (symbol, *children))
+        if all(one in found for one in come):
+            return found
+        found = {**come, **found}
+
+
+def fillings(automaton, sketch, more=()):
+    """All choices of trees for the holes, where each hole gets a tree of each state, and the ones that are given."""
+    return itertools.product(list(tree_of_each(automaton).values()) + list(more), repeat=len(plain_holes(sketch)))
+
+
+def plainly_possible(automaton, sketch):
+    """Point 116: the states of the completions."""
+    return tuple(sorted({state(automaton, filled(sketch, trees)) for trees in fillings(automaton, sketch)}))
+
+
+def plain_verdict(automaton, sketch):
+    """Point 117."""
+    flags = {good(automaton, filled(sketch, trees)) for trees in fillings(automaton, sketch)}
+    return "open" if len(flags) == 2 else "good" if flags == {True} else "bad"
+
+
+def plainly_matters(automaton, sketch, place):
+    """Point 118: whether two completions that differ at this hole alone are the one good and the other one not."""
+    at, seen = plain_holes(sketch).index(place), {}
+    for trees in fillings(automaton, sketch):
+        seen.setdefault(trees[:at] + trees[at + 1:], set()).add(good(automaton, filled(sketch, trees)))
+    return any(len(flags) == 2 for flags in seen.values())
+
+
 def takers_behind(table, symbol, below):
     """The states whose entry for the symbol does not fail, and names a state of each set below."""
     return tuple([
@@ -548,6 +629,155 @@ def looking_automata(seed, times):
                     tuple([tuple([many - 1 if chance.random() < 0.6 else one for one in row]) for row in entry])
                     if arity == 2 else entry for arity, entry in zip(arities, steps)])))
     return found
+
+
+# --- gardens
+
+
+class PlainGarden:
+    """Points 125 to 133, word by word: it begins anew from its journal for each question."""
+
+    def __init__(self, automaton):
+        self.first, self.journal = automaton, []
+
+    def now(self, many=20):
+        """The arities, the lists of good states, steps (by symbol and states) and trees, behind so many commands."""
+        arities, flags, entries = self.first
+        flags, trees = list(flags), []
+        steps = {
+            (symbol, states): entry_state(entries[symbol], states)
+            for symbol, arity in enumerate(arities)
+            for states in itertools.product(range(len(flags)), repeat=arity)
+        }
+        for command in self.journal[:many]:
+            if command[0] == "step":
+                steps[command[1:3]] = command[3]
+            elif command[0] == "good":
+                flags[command[1]] = command[2]
+            elif command[0] == "put":
+                trees.append(command[1])
+            elif command[0] == "take":
+                del trees[command[1]]
+            else:
+                _, number, place, other, later = command
+                one, two = at_place(trees[number], place), at_place(trees[other], later)
+                trees[number] = exchanged(trees[number], place, two)
+                trees[other] = exchanged(trees[other], later, one)
+        return arities, flags, steps, trees
+
+    def refusal(self, command):
+        """The word of point 126 for a command of a right form, or the one of point 134, or None."""
+        trees = self.now()[3]
+        word = None
+        if command[0] == "put" and len(trees) >= 12:
+            word = "many"
+        if command[0] == "take" and command[1] >= len(trees):
+            word = "missing"
+        if command[0] == "swap":
+            word = self.swap_refusal(trees, *command[1:])
+        return word or ("commands" if len(self.journal) >= 20 else None)
+
+    @staticmethod
+    def swap_refusal(trees, number, place, other, later):
+        if not (number < len(trees) and other < len(trees)):
+            return "missing"
+        one, two = at_place(trees[number], place), at_place(trees[other], later)
+        if one is None or two is None:
+            return "place"
+        if number == other:
+            inside = [place[:many] for many in range(len(place) + 1)], [later[:many] for many in range(len(later) + 1)]
+            return "overlap" if later in inside[0] or place in inside[1] else None
+        grown = nodes(two) - nodes(one)
+        return "great" if nodes(trees[number]) + grown > 15 or nodes(trees[other]) - grown > 15 else None
+
+    def automaton(self):
+        arities, flags, steps, _ = self.now()
+
+        def entry(symbol, left, states):
+            if left == 0:
+                return steps[(symbol, states)]
+            return tuple([entry(symbol, left - 1, states + (one,)) for one in range(len(flags))])
+
+        return arities, tuple(flags), tuple([entry(symbol, arity, ()) for symbol, arity in enumerate(arities)])
+
+    def states(self, many=20):
+        _, _, steps, trees = self.now(many)
+
+        def come_to(tree):
+            return steps[(tree[0], tuple([come_to(child) for child in tree[1:]]))]
+
+        return tuple([come_to(tree) for tree in trees])
+
+    def records(self):
+        return tuple([(command, self.states(at + 1)) for at, command in enumerate(self.journal)])
+
+
+def is_plain_command(automaton, value):
+    """Point 126: the form of a command."""
+    arities, many = automaton[0], len(automaton[1])
+    if type(value) is not tuple or not value or type(value[0]) is not str:
+        return False
+    word, told = value[0], value[1:]
+    if word == "step" and len(told) == 3 and is_one_of(told[0], len(arities)) and type(told[1]) is tuple:
+        right = len(told[1]) == arities[told[0]] and all(is_one_of(one, many) for one in told[1])
+        return right and is_one_of(told[2], many)
+    if word == "good" and len(told) == 2:
+        return is_one_of(told[0], many) and type(told[1]) is bool
+    if word == "put" and len(told) == 1:
+        return is_plain_tree(arities, told[0])
+    if word == "swap" and len(told) == 4:
+        return all(is_one_of(told[at], 12) and is_plain_place(told[at + 1]) for at in (0, 2))
+    return word == "take" and len(told) == 1 and is_one_of(told[0], 12)
+
+
+def random_command(chance, automaton, trees, small):
+    """A command for the automaton, most often a possible one if these are the trees of a garden."""
+    arities, many = automaton[0], len(automaton[1])
+    what = chance.choice(["step", "good", "put", "put", "swap", "swap", "swap", "swap", "take"])
+    if what == "step":
+        symbol = chance.randrange(len(arities))
+        return (what, symbol, tuple([chance.randrange(many) for _ in range(arities[symbol])]), chance.randrange(many))
+    if what == "good":
+        return (what, chance.randrange(many), chance.random() < 0.5)
+    if what == "put" and small:
+        return (what, chance.choice(small))
+    if what == "swap" and trees:
+        number, other = chance.randrange(len(trees)), chance.randrange(min(12, len(trees) + (chance.random() < 0.1)))
+        places = [chance.choice(all_places(trees[at]) if at < len(trees) else [()]) for at in (number, other)]
+        if chance.random() < 0.1:
+            places[chance.randrange(2)] += (chance.randrange(2),)
+        if all(len(place) <= 14 for place in places):
+            return (what, number, places[0], other, places[1])
+    return ("take", chance.randrange(max(1, min(12, len(trees) + (chance.random() < 0.2)))))
+
+
+# For the arities (0, 1, 2) and two states.
+RIGHT_COMMANDS = [
+    ("step", 0, (), 1), ("step", 1, (1,), 0), ("step", 2, (0, 1), 1), ("good", 0, True), ("good", 1, False),
+    ("put", (0,)), ("put", (2, (0,), (1, (0,)))), ("swap", 0, (), 1, ()), ("swap", 11, (0,) * 14, 0, (1,) * 14),
+    ("take", 0), ("take", 11),
+]
+WRONG_COMMANDS = [
+    None, True, 0, "", "take", [], (), ("take",), ["take", 0], ("take", 0, 0), ("take", 12), ("take", -1),
+    ("take", True), ("take", None), ("take", "0"), ("take", (0,)), ("Take", 0), ("", 0), (None, 0), (("take",), 0),
+    (True, 0), (0, 0), ("undo", 0), ("put",), ("put", None), ("put", (3,)), ("put", (1,)), ("put", (0,), 0),
+    ("put", [0]), ("put", (False,)), ("put", (2, (0,), None)), ("good",), ("good", 0), ("good", 2, True),
+    ("good", -1, True), ("good", 0, 1), ("good", 0, 0), ("good", 0, None), ("good", True, True), ("good", "0", True),
+    ("good", 0, True, True), ("good", (0,), True), ("step",), ("step", 0, 0), ("step", 0, ()), ("step", 3, (), 0),
+    ("step", -1, (), 0), ("step", False, (), 0), ("step", 0, (0,), 0), ("step", 0, (), 2), ("step", 0, (), -1),
+    ("step", 0, (), True), ("step", 0, None, 0), ("step", 0, [], 0), ("step", 0, (), 0, 0), ("step", 1, (), 0),
+    ("step", 1, (0, 0), 0), ("step", 1, (2,), 0), ("step", 1, (True,), 0), ("step", 1, 0, 0), ("step", 1, [0], 0),
+    ("step", 2, (0,), 0), ("step", 2, (0, 2), 0), ("step", 2, (-1, 0), 0), ("step", 2, (0, False), 0),
+    ("step", 2, (0, 0, 0), 0), ("step", 2, ((0,), (0,)), 0), ("swap",), ("swap", 0, (), 1), ("swap", 0, (), 1, (), ()),
+    ("swap", 12, (), 1, ()), ("swap", 0, (), 12, ()), ("swap", -1, (), 1, ()), ("swap", True, (), 0, ()),
+    ("swap", 0, (), False, ()), ("swap", 0, (2,), 1, ()), ("swap", 0, (), 1, (-1,)), ("swap", 0, [], 1, ()),
+    ("swap", 0, (), 1, None), ("swap", 0, (True,), 1, ()), ("swap", 0, (), 1, (0,) * 15), ("swap", 0, (0,) * 15, 1, ()),
+    ("swap", None, (), 1, ()), ("swap", 0, 0, 1, ()), ["swap", 0, (), 1, ()], ("put", DEEP), ("put", DEEP_LIST),
+    ("put", nested_tree(15)), ("put", nested_tree(5000)), ("take", DEEP), (DEEP, 0), (DEEP_LIST, 0), DEEP, DEEP_LIST,
+    ("good", DEEP, True), ("good", 0, DEEP), ("step", DEEP, (), 0), ("step", 0, DEEP, 0), ("step", 1, (DEEP,), 0),
+    ("step", 0, (), DEEP), ("swap", 0, DEEP, 1, ()), ("swap", DEEP, (), 1, ()), ("swap", 0, (), 1, (DEEP,)),
+    ("take", 0) * 50000,
+]
 
 
 # --- evidence, and the same with one thing changed

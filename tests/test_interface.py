@@ -13,6 +13,16 @@ CLASSES = {
         "TreeError": ("ValueError", None), "BadValue": ("TreeError", ["name"]), "TooLarge": ("TreeError", ["what"]),
         "NotPossible": ("TreeError", ["why"]), "TextError": ("TreeError", ["column", "words"]),
     },
+    "asker": {"Asker": ("object", ["automaton"])},
+    "garden": {"Garden": ("object", ["automaton"])},
+}
+
+METHODS = {
+    ("asker", "Asker"): {"ask": "", "tell": "symbol", "sketch": "", "verdict": "", "take_back": ""},
+    ("garden", "Garden"): {
+        "act": "command", "undo": "", "automaton": "", "trees": "", "journal": "", "states": "", "good": "",
+        "let_in": "depth", "records": "", "twin": "",
+    },
 }
 
 FUNCTIONS = {
@@ -68,6 +78,15 @@ FUNCTIONS = {
     "scanning": {"scan": "text"},
     "reading": {"next_tokens": "text kind", "read_tree": "arities text", "read_automaton": "text"},
     "writing": {"tree_text": "arities tree", "automaton_text": "automaton"},
+    "sketches": {
+        "is_sketch": "automaton value", "holes": "automaton sketch", "possible_states": "automaton sketch",
+        "verdict": "automaton sketch", "matters": "automaton sketch place",
+    },
+    "verdicts": {
+        "first_good": "automaton sketch", "first_bad": "automaton sketch", "verdict_evidence": "automaton sketch",
+        "accepts_verdict": "automaton sketch value",
+    },
+    "journals": {"replayed": "automaton journal", "are_right": "automaton records"},
 }
 
 
@@ -99,6 +118,19 @@ class Interface(unittest.TestCase):
                     if parameters is not None:
                         told = inspect.signature(getattr(loaded, name)).parameters
                         self.assertEqual(list(told), parameters)
+
+    def test_methods(self):
+        """Each one is defined in the class itself."""
+        for (module, name), listed in METHODS.items():
+            loaded, found = importlib.import_module("rootfirst." + module), defined(module)
+            own = {node.name for node in found[name].body if isinstance(node, ast.FunctionDef)}
+            self.assertEqual(own, set(listed) | {"__init__"})
+            for method, parameters in listed.items():
+                with self.subTest(name=name, method=method):
+                    told = list(inspect.signature(getattr(getattr(loaded, name), method)).parameters.values())[1:]
+                    self.assertEqual([one.name for one in told], parameters.split())
+                    for one in told:
+                        self.assertEqual((one.kind, one.default), (one.POSITIONAL_OR_KEYWORD, one.empty))
 
     def test_arguments_can_be_named(self):
         from rootfirst.trees import are_equal_along
