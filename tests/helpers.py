@@ -117,7 +117,6 @@ WRONG_PLACES = [
     (0,) * 15, (0, 1, 2), DEEP, DEEP_LIST, (DEEP,), (0, DEEP_LIST), (0,) * 100000,
 ]
 
-LEAF_AND_FLAGS = ((0,), (True,), (0,))
 WRONG_AUTOMATA = [
     None, True, 0, "", [], (), (0,), ((0,), (True,)), ((0,), (True,), (0,), ()), [(0,), (True,), (0,)],
     ([0], (True,), (0,)), ((0,), [True], (0,)), ((0,), (True,), [0]), ((), (True,), ()), ((3,), (True,), (0,)),

@@ -144,6 +144,20 @@ class Language(unittest.TestCase):
                 if isinstance(node, ast.Call) and isinstance(node.func, ast.Attribute):
                     self.assertIn(node.func.attr, METHODS | methods)
 
+    def test_classes(self):
+        """L5, L18: methods with `self` alone ahead, and no name that is a method and an attribute in one class."""
+        for path, tree in self.each():
+            for one in [node for node in tree.body if isinstance(node, ast.ClassDef)]:
+                rest = [node for node in one.body if not isinstance(node, (ast.FunctionDef, ast.Expr))]
+                self.assertEqual(rest, [])
+                methods = [node for node in one.body if isinstance(node, ast.FunctionDef)]
+                self.assertTrue(all(node.args.args[0].arg == "self" for node in methods))
+                names = [node.name for node in methods]
+                self.assertEqual(len(names), len(set(names)))
+                stored = {node.attr for node in ast.walk(one)
+                          if isinstance(node, ast.Attribute) and isinstance(node.ctx, ast.Store)}
+                self.assertEqual(stored & set(names), set())
+
     def test_words(self):
         """L12, L17, L27: no barred word, no word with two underscores ahead, no % in a string."""
         for path, tree in self.each():
